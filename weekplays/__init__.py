@@ -1,0 +1,1 @@
+"""A week's plays: which bill leaves the house most."""
