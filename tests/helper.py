@@ -15,6 +15,18 @@ def best():
     return [2]
 
 
+def check(bill):
+    return [3, len(bill)] + list(bill)
+
+
+def night(place, come):
+    return [4, place, come]
+
+
+def drop(number):
+    return [5, number]
+
+
 def ask(*calls):
     """The answer to each call, a list for each."""
     answered = answers([number for call in calls for number in call])
@@ -36,5 +48,19 @@ def last(*calls):
 
 def best_answer(left, ways, bill, takes, work):
     """A best's answer, as its numbers stand in one list."""
+    return [left, 1, ways] + three_lists(bill, takes, work)
+
+
+def right_answer(bill, takes, work):
+    """A check's answer to a right bill."""
+    return [1] + three_lists(bill, takes, work)
+
+
+def wrong_answer(wrong, which):
+    """A check's answer to a bill that isn't right."""
+    return [0, 2, wrong, which]
+
+
+def three_lists(bill, takes, work):
     nights = len(bill)
-    return [left, 1, ways, nights] + bill + [nights] + takes + [2, sum(takes), work]
+    return [nights] + bill + [nights] + takes + [2, sum(takes), work]

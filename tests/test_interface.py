@@ -41,8 +41,27 @@ class TheOneList(unittest.TestCase):
         calls = WEEK + BEST + PLAY + BEST
         self.assertEqual(answers(calls), [1, 2, 12, 0, 1, 1, 2, 0, 0, 2, 0, 0, 2, 0, 0, 1, 1, 12] + BEST_ANSWER)
 
+    def test_check_night_and_drop_among_the_others(self):
+        right = [1, 2, 1, 1, 2, 500, 600, 2, 1100, 30]
+        calls = WEEK + PLAY + [3, 2, 1, 1] + [4, 1, 50] + [3, 2, 0, 1] + [5, 1] + [3, 2, 0, 1] + WEEK + [4, 2, 301]
+        self.assertEqual(answers(calls), [1, 2, 1, 1, 10] + right + [1, 200] + [10, 1, 2, 0, 1, 2, 0, 250, 2, 250, 30]
+                         + [1, 0, 1, -1, 1, 2, 1, -2])
+
+    def test_what_is_wrong_with_a_bill_is_a_list(self):
+        self.assertEqual(answers(WEEK + [1, 0, 0, 0, 1, 1, 1, 5] + [3, 2, 0, 0] + [3, 2, 1, 1]),
+                         [1, 2, 1, 1, 4, 0, 2, 2, 1, 4, 0, 2, 1, 1])
+
+    def test_refused_bills_are_read_to_their_end(self):
+        self.assertEqual(answers(WEEK + [3, 20] + [2] * 20 + [3, 0] + PLAY), [1, 2, 1, -1, 1, -1, 1, 1])
+
+    def test_forty_of_each_call(self):
+        self.assertEqual(answers([3, 0] * 40), [6, 1, 0, 0, 2, 0, 0] * 40)
+        self.assertEqual(answers([4, 0, 0] * 40), [1, -2] * 40)
+        self.assertEqual(answers([5, 1] * 40), [1, -2] * 40)
+        self.assertEqual(answers(WEEK + [4, 0, 5] * 39), [1, 2, 1, 100] + [1, 5] * 38)
+
     def test_whole_numbers_in_a_list(self):
-        answered = answers(WEEK + PLAY + PLAY + BEST + [0, 0])
+        answered = answers(WEEK + PLAY + PLAY + BEST + [3, 2, 1, 1, 3, 2, 1, 2, 4, 0, 9, 5, 1, 0, 0])
         self.assertIs(type(answered), list)
         self.assertEqual({type(number) for number in answered}, {int})
 

@@ -1,4 +1,34 @@
-"""What one bill takes and costs. A bill is a list of places among the plays, 0 the dark house."""
+"""What one bill takes and costs, and what is wrong with it.
+
+A bill is a list of places among the plays, 0 the dark house.
+"""
+
+NOT_TWICE_RUNNING = 1
+TOO_SELDOM = 2
+TOO_OFTEN = 3
+
+
+def first_wrong(plays, bill):
+    """What is wrong with a bill first, and the night or play; empty if it is right."""
+    return wrong_night(plays, bill) or wrong_play(plays, bill)
+
+
+def wrong_night(plays, bill):
+    for night in range(1, len(bill)):
+        number = bill[night]
+        if number == bill[night - 1] and not plays[number].may_run:
+            return [NOT_TWICE_RUNNING, night]
+    return []
+
+
+def wrong_play(plays, bill):
+    for number, play in enumerate(plays):
+        times = bill.count(number)
+        if times < play.least:
+            return [TOO_SELDOM, number]
+        if times > play.most:
+            return [TOO_OFTEN, number]
+    return []
 
 
 def takings(come, plays, bill):

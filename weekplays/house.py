@@ -7,6 +7,9 @@ from weekplays.week import Week
 BEGINS = 0
 PLAY = 1
 BEST = 2
+CHECK = 3
+NIGHT = 4
+DROP = 5
 
 
 class UnknownCall(ValueError):
@@ -34,6 +37,13 @@ def answer_next(reader, week):
         return week.play(read_play(reader))
     if call == BEST:
         return week.best()
+    if call == CHECK:
+        return week.check(reader.row())
+    if call == NIGHT:
+        place = reader.number()
+        return week.night(place, reader.number())
+    if call == DROP:
+        return week.drop(reader.number())
     raise UnknownCall(f"there is no call {call}")
 
 
